@@ -1,0 +1,1 @@
+"""Plainway: paths made plain."""
