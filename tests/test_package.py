@@ -11,9 +11,22 @@ FOLDER = pathlib.Path(__file__).resolve().parent.parent / "plainway"
 FUNCTIONS = {
     "plainway.signs": {"name_of": ["part"], "written": ["name"]},
     "plainway.steps": {"steps_of": ["path"]},
+    "plainway.walking": {"walk": ["start", "path", "shares"]},
+    "plainway.plain": {
+        "plain": ["path", "shares"],
+        "joined": ["one", "other", "shares"],
+        "same": ["one", "other", "shares"],
+    },
+    "plainway.telling": {"way": ["start", "goal"], "by_share": ["place", "shares"]},
 }
 CLASSES = {
     "plainway.errors": ("PathError", "BadEscape", "NoShare", "Ring"),
+    "plainway.shares": ("Shares",),
+}
+METHODS = {
+    "__init__": ["self", "table"],
+    "names": ["self"],
+    "place": ["self", "name"],
 }
 
 
@@ -34,6 +47,13 @@ class TheInterface(unittest.TestCase):
                     found = getattr(importlib.import_module(module), name)
                     self.assertTrue(inspect.isclass(found))
                     self.assertEqual(found.__module__, module)
+
+    def test_the_methods_of_shares_stand_in_that_class_itself(self):
+        own = vars(importlib.import_module("plainway.shares").Shares)
+        for name, arguments in METHODS.items():
+            with self.subTest(method=name):
+                self.assertTrue(inspect.isfunction(own.get(name)))
+                self.assertEqual(list(inspect.signature(own[name]).parameters), arguments)
 
 
 class TheFiles(unittest.TestCase):
